@@ -1,0 +1,1 @@
+"""Peatrick: amounts of peat in a village's own measure."""
