@@ -3,6 +3,8 @@
 import copy
 import itertools
 
+from peatrick.errors import PeatError
+
 VILLAGE = [12, 20, 5]
 HUNDRED = [2 + (7 * place) % 31 for place in range(100)]
 SEVENTY = int("7301946582" * 7)
@@ -28,6 +30,9 @@ VALUES = sorted(
     | {1227, -1227, 1199, 1200, 1201, -1199, -1200, -1201}
     | {SEVENTY, -SEVENTY, GREATEST, -GREATEST, 10 ** 69, -(10 ** 69)}
 )
+
+# Fewer, for what is tried with two of them at once.
+SOME_VALUES = [0, 1, -1, 11, 12, 1199, 1227, -1200, -1201, SEVENTY, -SEVENTY, GREATEST, -GREATEST]
 
 
 def worths(steps):
@@ -64,6 +69,16 @@ def unchanged(test, function, *handed):
     answer = function(*handed)
     test.assertTrue(before == handed, "what was handed in was changed")
     return answer
+
+
+def refused(test, error, function, *handed):
+    """The function refuses with that error, a PeatError and a ValueError, and what was handed in is as it was."""
+    before = copy.deepcopy(handed)
+    for taken in (error, PeatError, ValueError):
+        with test.assertRaises(taken, msg=repr(handed)) as caught:
+            function(*handed)
+        test.assertIs(type(caught.exception), error)
+    test.assertTrue(before == handed, "what was handed in was changed")
 
 
 def expect_amount(test, steps, answer, value):

@@ -30,6 +30,17 @@ ARGUMENTS = {
         "total": ["steps", "amounts"],
         "times": ["steps", "parts", "many"],
     },
+    "sharing": {
+        "shared": ["steps", "parts", "many"],
+    },
+    "order": {
+        "ahead": ["one", "other"],
+        "in_order": ["amounts"],
+    },
+    "notes": {
+        "shown": ["parts"],
+        "read": ["steps", "line"],
+    },
 }
 
 

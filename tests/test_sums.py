@@ -2,11 +2,9 @@
 
 import unittest
 
-from checks import GREATEST, HUNDRED, MEASURES, SEVENTY, VILLAGE, expect_amount, plain_value, unchanged
+from checks import GREATEST, HUNDRED, MEASURES, SEVENTY, SOME_VALUES, VILLAGE, expect_amount, plain_value, unchanged
 from peatrick.parts import amount_of
 from peatrick.sums import minus, plus, times, total
-
-SOME_VALUES = [0, 1, -1, 11, 12, 1199, 1227, -1200, -1201, SEVENTY, -SEVENTY, GREATEST, -GREATEST]
 
 
 def amounts_of_some_values(steps):
